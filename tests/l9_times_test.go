@@ -581,12 +581,42 @@ func callTimesFunctions(f impl.Frame, a, b, n int) (impl.Frame, [][]int, [][3]in
 	return product, [][]int{totals, row, odd, wrong}, parts, pairs
 }
 
-func TestPromise29MultiplyingReturnsForAllArguments(t *testing.T) {
-	numbers := []int{math.MinInt, math.MinInt + 1, -1 << 32, -10000, -9999, -1, 0, 1, 9, 10, 45, 9998, 9999, 10000, 99999999, 100000000, 1 << 32, math.MaxInt - 1, math.MaxInt}
+// framesOfAllKinds are frames that are standard, valid but not standard, and not valid.
+func framesOfAllKinds() []impl.Frame {
 	frames := append(invalidFrames()[:40], longFrames()[:40]...)
 	frames = append(frames, shortFrames(1)...)
-	frames = append(frames, repeatedFrame(math.MaxInt, math.MinInt, [2]int{math.MinInt, math.MaxInt}, 1<<16), repeatedFrame(1, 4, [2]int{math.MaxInt, math.MaxInt}, 8))
-	for i, f := range frames {
+	return append(frames, repeatedFrame(math.MaxInt, math.MinInt, [2]int{math.MinInt, math.MaxInt}, 1<<16), repeatedFrame(1, 4, [2]int{math.MaxInt, math.MaxInt}, 8))
+}
+
+// textsOfThreeRods are texts of frames with three rods, the last one not standard.
+func textsOfThreeRods() []string {
+	return []string{"1/4 01 00 00", "1/4 00 13 11", "2/5 00 00 00", "1/5 12 00 14", "1/5 05 00 14"}
+}
+
+// checkFrameApart tests that a call modifies no memory of a frame of three rods, also behind them,
+// and that the frame that it returns does not change with its argument.
+func checkFrameApart(t *testing.T, text string, call func(impl.Frame) impl.Frame) {
+	t.Helper()
+	f := parsedFrame(t, text)
+	memory := append(f.Rods, [2]int{7, 7}, [2]int{-1, 9})
+	before := slices.Clone(memory)
+	f.Rods = memory[:3]
+	result := call(f)
+	if !slices.Equal(memory, before) {
+		t.Errorf("%s: the memory of the argument is now %v", text, memory)
+	}
+	kept := cloneFrame(result)
+	for i := range memory {
+		memory[i] = [2]int{5, 5}
+	}
+	if !sameFrame(result, kept) {
+		t.Errorf("%s: the result changed with the argument", text)
+	}
+}
+
+func TestPromise29MultiplyingReturnsForAllArguments(t *testing.T) {
+	numbers := []int{math.MinInt, math.MinInt + 1, -1 << 32, -10000, -9999, -1, 0, 1, 9, 10, 45, 9998, 9999, 10000, 99999999, 100000000, 1 << 32, math.MaxInt - 1, math.MaxInt}
+	for i, f := range framesOfAllKinds() {
 		for j, a := range numbers {
 			for k, b := range numbers {
 				callTimesFunctions(f, a, b, numbers[(i+j+k)%len(numbers)])
@@ -596,23 +626,12 @@ func TestPromise29MultiplyingReturnsForAllArguments(t *testing.T) {
 }
 
 func TestPromise29MultiplyingModifiesNothing(t *testing.T) {
-	for _, text := range []string{"1/4 01 00 00", "1/4 00 13 11", "2/5 00 00 00", "1/5 12 00 14"} {
+	for _, text := range textsOfThreeRods() {
 		for _, c := range [][2]int{{0, 0}, {0, 45}, {7, 0}, {2, 3}, {11, 12}, {-1, 5}, {9999, 9999}} {
-			memory := append(parsedFrame(t, text).Rods, [2]int{7, 7}, [2]int{-1, 9})
-			before := slices.Clone(memory)
-			f := parsedFrame(t, text)
-			f.Rods = memory[:3]
-			product, _, _, _ := callTimesFunctions(f, c[0], c[1], 1035)
-			if !slices.Equal(memory, before) {
-				t.Errorf("%s: the memory of the argument is now %v", text, memory)
-			}
-			kept := cloneFrame(product)
-			for i := range memory {
-				memory[i] = [2]int{5, 5}
-			}
-			if !sameFrame(product, kept) {
-				t.Errorf("%s: the result changed with the argument", text)
-			}
+			checkFrameApart(t, text, func(f impl.Frame) impl.Frame {
+				product, _, _, _ := callTimesFunctions(f, c[0], c[1], 1035)
+				return product
+			})
 		}
 	}
 }
